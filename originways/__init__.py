@@ -1,0 +1,1 @@
+"""Route origin validation and prefix hijack analysis."""
