@@ -15,7 +15,7 @@ def answers(calls):
         number = calls[place]
         place += 1
         if number == RESET:
-            registry = Registry()
+            registry = Registry([], [], 0)
             answered = [0]
         else:
             given = calls[place:place + given_count(number)]

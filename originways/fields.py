@@ -9,3 +9,11 @@ LENGTH = 1
 MAX_LENGTH = 2
 ANNOUNCER = 2
 ORIGIN = 3
+
+
+def all_fields(rows):
+    """Answer the fields of ROAs or announcements, one behind another."""
+    found = []
+    for row in rows:
+        found.extend(row)
+    return found

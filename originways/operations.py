@@ -4,13 +4,14 @@ A refused call answers its error code alone. Each call checks all of its
 errors before it changes anything, in the order that the document lists.
 """
 
-from originways.fields import ADDRESS, ANNOUNCER, LENGTH, ORIGIN
+from originways.fields import ADDRESS, ANNOUNCER, LENGTH, ORIGIN, all_fields
+from originways.hijacks import hijacking_members, vulnerable_of
 from originways.limits import ANNOUNCEMENT_LIMIT, ROA_LIMIT, is_member
 from originways.prefixes import is_address, is_prefix
 from originways.refusals import (
     BAD_ARGUMENT, EXISTS, LIMIT_REACHED, NO_ANNOUNCEMENT, NO_DESTINATION, NO_REGISTRY, NOT_THERE,
 )
-from originways.roas import is_roa, tightened_roas, validity_code
+from originways.roas import is_roa, tightened_roas, valid_prefixes, validity_code
 from originways.routing import selected_announcement
 
 
@@ -26,7 +27,7 @@ def add_roa(registry, address, length, max_length, origin):
     index = len(registry.roas)
     if index >= ROA_LIMIT:
         return [LIMIT_REACHED]
-    moved = registry.change_roas(registry.roas + [roa])
+    moved = registry.change_to(registry.with_roas(registry.roas + [roa]))
     return [index, moved]
 
 
@@ -35,7 +36,7 @@ def remove_roa(registry, index):
     if index >= len(registry.roas):
         return [NOT_THERE]
     remaining = registry.roas[:index] + registry.roas[index + 1:]
-    moved = registry.change_roas(remaining)
+    moved = registry.change_to(registry.with_roas(remaining))
     return [len(remaining), moved]
 
 
@@ -51,7 +52,7 @@ def announce(registry, address, length, announcer, origin):
     if len(registry.announcements) >= ANNOUNCEMENT_LIMIT:
         return [LIMIT_REACHED]
     code = validity_code(registry.roas, address, length, origin)
-    moved = registry.change_announcements(registry.announcements + [announcement])
+    moved = registry.change_to(registry.with_announcements(registry.announcements + [announcement]))
     return [code, moved]
 
 
@@ -63,7 +64,7 @@ def withdraw(registry, address, length, announcer, origin):
     if announcement not in registry.announcements:
         return [NO_ANNOUNCEMENT]
     remaining = [one for one in registry.announcements if one != announcement]
-    moved = registry.change_announcements(remaining)
+    moved = registry.change_to(registry.with_announcements(remaining))
     return [len(remaining), moved]
 
 
@@ -72,7 +73,7 @@ def set_strict(registry, strict):
     if strict > 1:
         return [BAD_ARGUMENT]
     previous = registry.strict
-    moved = registry.change_strict(strict)
+    moved = registry.change_to(registry.with_strict(strict))
     return [previous, moved]
 
 
@@ -83,7 +84,7 @@ def tighten_roas(registry, member):
     tightened = tightened_roas(registry.roas, registry.announcements, member)
     if len(tightened) > ROA_LIMIT:
         return [LIMIT_REACHED]
-    moved = registry.change_roas(tightened)
+    moved = registry.change_to(registry.with_roas(tightened))
     return [len(tightened), moved]
 
 
@@ -106,6 +107,75 @@ def destination(registry, address):
     return [selected[ANNOUNCER], selected[ORIGIN], selected[ADDRESS], selected[LENGTH]]
 
 
+def address_count(registry, member):
+    """Answer how many addresses go to the member, and how many have no destination."""
+    if not is_member(member):
+        return [NOT_THERE]
+    found = registry.destinations()
+    return [found.count(member), found.count(None)]
+
+
+def hijackers(registry, address):
+    """Answer the count of the members that can hijack the address, and these members."""
+    if not is_address(address):
+        return [BAD_ARGUMENT]
+    selected = selected_announcement(registry.accepted(), address)
+    members = hijacking_members(registry, address, selected)
+    return [len(members)] + members
+
+
+def vulnerable_addresses(registry, member):
+    """Answer the count of the vulnerable addresses of the member, and these addresses."""
+    if not is_member(member):
+        return [NOT_THERE]
+    vulnerable = vulnerable_of(registry, member)
+    return [len(vulnerable)] + vulnerable
+
+
+def preview_tighten(registry, member):
+    """Answer how many addresses would be vulnerable, and how many would move, by tightening."""
+    if not is_member(member):
+        return [NOT_THERE]
+    tightened = tightened_roas(registry.roas, registry.announcements, member)
+    after = registry.with_roas(tightened)
+    return [len(vulnerable_of(after, member)), len(registry.moved_by(after))]
+
+
+def preview_announce(registry, address, length, announcer, origin):
+    """Answer the count of the addresses that an announcement would move, and these addresses."""
+    if not is_member(announcer) or not is_member(origin):
+        return [NOT_THERE]
+    if not is_prefix(address, length):
+        return [BAD_ARGUMENT]
+    # One that exists already stands twice then, which moves nothing: it is not preferred to itself.
+    announcement = (address, length, announcer, origin)
+    moved = registry.moved_by(registry.with_announcements(registry.announcements + [announcement]))
+    return [len(moved)] + moved
+
+
+def dropped_announcements(registry):
+    """Answer the count of the dropped announcements, and the fields of each."""
+    dropped = registry.dropped()
+    return [len(dropped)] + all_fields(dropped)
+
+
+def valid_prefix_count(registry, member):
+    """Answer how many prefixes of all lengths are valid with the member as the origin."""
+    if not is_member(member):
+        return [NOT_THERE]
+    return [len(valid_prefixes(registry.roas, member))]
+
+
+def list_roas(registry):
+    """Answer the count of the ROAs, and the fields of each."""
+    return [len(registry.roas)] + all_fields(registry.roas)
+
+
+def list_announcements(registry):
+    """Answer the count of the announcements, strict mode, and the fields of each announcement."""
+    return [len(registry.announcements), registry.strict] + all_fields(registry.announcements)
+
+
 # By the number of a call: how many whole numbers it is given, and what answers it.
 # The call reset is not here: it makes the registry that the others need.
 OPERATIONS = {
@@ -117,6 +187,15 @@ OPERATIONS = {
     6: (1, tighten_roas),
     7: (3, validity),
     8: (1, destination),
+    9: (1, address_count),
+    10: (1, hijackers),
+    11: (1, vulnerable_addresses),
+    12: (1, preview_tighten),
+    13: (4, preview_announce),
+    14: (0, dropped_announcements),
+    15: (1, valid_prefix_count),
+    16: (0, list_roas),
+    17: (0, list_announcements),
 }
 
 
@@ -130,6 +209,8 @@ def perform(registry, number, given):
     if registry is None:
         return [NO_REGISTRY]
     operation = OPERATIONS[number][1]
+    if len(given) == 0:
+        return operation(registry)
     if len(given) == 1:
         return operation(registry, given[0])
     if len(given) == 3:

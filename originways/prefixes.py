@@ -18,6 +18,20 @@ def is_prefix(address, length):
     return address % SIZES[length] == 0
 
 
+def prefix_start(address, length):
+    """Answer the first address of the prefix of this length that contains the address."""
+    return address - address % SIZES[length]
+
+
+def all_prefixes():
+    """Answer every prefix of every length, as pairs (address, length)."""
+    found = []
+    for length in range(LONGEST + 1):
+        for address in range(0, ADDRESS_COUNT, SIZES[length]):
+            found.append((address, length))
+    return found
+
+
 def contains_address(prefix_address, prefix_length, address):
     """Tell whether the prefix contains the address."""
     return prefix_address <= address < prefix_address + SIZES[prefix_length]

@@ -2,7 +2,7 @@
 
 from originways.fields import ADDRESS, ANNOUNCER, LENGTH, MAX_LENGTH, ORIGIN
 from originways.limits import LONGEST
-from originways.prefixes import contains_prefix, is_prefix
+from originways.prefixes import all_prefixes, contains_prefix, is_prefix
 
 NOT_FOUND = 0
 VALID = 1
@@ -14,25 +14,33 @@ def is_roa(address, length, max_length):
     return is_prefix(address, length) and length <= max_length <= LONGEST
 
 
-def covers(roa, address, length):
-    """Tell whether the ROA covers the prefix, whatever its origin and max_length."""
-    return contains_prefix(roa[ADDRESS], roa[LENGTH], address, length)
+def covering_roas(roas, address, length):
+    """Answer the ROAs that cover the prefix, whatever their origins and max_lengths."""
+    return [roa for roa in roas if contains_prefix(roa[ADDRESS], roa[LENGTH], address, length)]
 
 
-def authorizes(roa, address, length, origin):
-    """Tell whether the ROA makes the prefix valid with the origin."""
-    return covers(roa, address, length) and roa[ORIGIN] == origin and length <= roa[MAX_LENGTH]
+def authorized_origins(covering, length):
+    """Answer the origins that make a prefix of this length valid, from the ROAs that cover it."""
+    return [roa[ORIGIN] for roa in covering if length <= roa[MAX_LENGTH]]
 
 
 def validity_code(roas, address, length, origin):
     """Answer the validity of the prefix with the origin."""
-    code = NOT_FOUND
-    for roa in roas:
-        if authorizes(roa, address, length, origin):
-            return VALID
-        if covers(roa, address, length):
-            code = INVALID
-    return code
+    covering = covering_roas(roas, address, length)
+    if not covering:
+        return NOT_FOUND
+    if origin in authorized_origins(covering, length):
+        return VALID
+    return INVALID
+
+
+def valid_prefixes(roas, origin):
+    """Answer the prefixes of all lengths that are valid with the origin."""
+    found = []
+    for prefix in all_prefixes():
+        if validity_code(roas, prefix[ADDRESS], prefix[LENGTH], origin) == VALID:
+            found.append(prefix)
+    return found
 
 
 def tightened_roas(roas, announcements, member):

@@ -1,20 +1,23 @@
 """Which announcements are accepted, and where the traffic for an address goes."""
 
 from originways.fields import ADDRESS, ANNOUNCER, LENGTH, ORIGIN
-from originways.limits import ADDRESS_COUNT
+from originways.limits import ADDRESS_COUNT, MEMBER_COUNT
 from originways.prefixes import contains_address
-from originways.roas import NOT_FOUND, VALID, validity_code
+from originways.roas import authorized_origins, covering_roas
+
+
+def accepted_origins(roas, strict, address, length):
+    """Answer the origins that an announcement of the prefix is accepted with; strict is 1 or 0."""
+    covering = covering_roas(roas, address, length)
+    if not covering and strict == 0:
+        return list(range(MEMBER_COUNT))
+    return authorized_origins(covering, length)
 
 
 def is_accepted(announcement, roas, strict):
-    """Tell whether the announcement is accepted; strict is 1 or 0."""
-    code = validity_code(roas, announcement[ADDRESS], announcement[LENGTH], announcement[ORIGIN])
-    return code == VALID or (code == NOT_FOUND and strict == 0)
-
-
-def accepted_announcements(roas, announcements, strict):
-    """Answer the announcements that are not dropped, in their order."""
-    return [one for one in announcements if is_accepted(one, roas, strict)]
+    """Tell whether the announcement is accepted."""
+    origins = accepted_origins(roas, strict, announcement[ADDRESS], announcement[LENGTH])
+    return announcement[ORIGIN] in origins
 
 
 def is_own(announcement):
@@ -33,35 +36,32 @@ def is_preferred(one, other):
     return one[ORIGIN] < other[ORIGIN]
 
 
+def replaces(one, selected):
+    """Tell whether one announcement of an address is selected ahead of the selected one, or of None."""
+    return selected is None or is_preferred(one, selected)
+
+
 def selected_announcement(accepted, address):
     """Answer the most preferred accepted announcement of the address, or None."""
     selected = None
     for one in accepted:
-        if not contains_address(one[ADDRESS], one[LENGTH], address):
-            continue
-        if selected is None or is_preferred(one, selected):
+        if contains_address(one[ADDRESS], one[LENGTH], address) and replaces(one, selected):
             selected = one
     return selected
 
 
-def destination_of(accepted, address):
-    """Answer the member that the traffic for the address goes to, or None."""
-    selected = selected_announcement(accepted, address)
+def announcer_of(selected):
+    """Answer the destination that a selected announcement makes, None where there is none."""
     if selected is None:
         return None
     return selected[ANNOUNCER]
 
 
-def destinations(roas, announcements, strict):
+def destinations_by(accepted):
     """Answer the destination of each address, None where it has none."""
-    accepted = accepted_announcements(roas, announcements, strict)
-    return [destination_of(accepted, address) for address in range(ADDRESS_COUNT)]
+    return [announcer_of(selected_announcement(accepted, address)) for address in range(ADDRESS_COUNT)]
 
 
-def moved_count(before, after):
-    """Answer at how many addresses two lists of destinations differ."""
-    count = 0
-    for address in range(ADDRESS_COUNT):
-        if before[address] != after[address]:
-            count += 1
-    return count
+def moved_addresses(before, after):
+    """Answer the addresses at which two lists of destinations differ, in increasing order."""
+    return [address for address in range(ADDRESS_COUNT) if before[address] != after[address]]

@@ -1,9 +1,12 @@
-"""Calls as tuples, their answers as lists, and what they tell of the state."""
+"""Calls as tuples, their answers as lists, what they tell of the state, and made-up requests."""
 
 from originways.answer import answers
 
 BIGGEST = 4294967295
 RESET = (0,)
+DROPPED_ANNOUNCEMENTS = (14,)
+LIST_ROAS = (16,)
+LIST_ANNOUNCEMENTS = (17,)
 ALL_ADDRESSES = range(64)
 ALL_PREFIXES = [
     (address, length)
@@ -44,6 +47,30 @@ def destination(address):
     return (8, address)
 
 
+def address_count(member):
+    return (9, member)
+
+
+def hijackers(address):
+    return (10, address)
+
+
+def vulnerable_addresses(member):
+    return (11, member)
+
+
+def preview_tighten(member):
+    return (12, member)
+
+
+def preview_announce(address, length, announcer, origin):
+    return (13, address, length, announcer, origin)
+
+
+def valid_prefix_count(member):
+    return (15, member)
+
+
 def run(*calls):
     """The answer of each call, as a list each; the calls are one request."""
     given = [number for call in calls for number in call]
@@ -71,6 +98,23 @@ def ask(history, questions):
         part = questions[start:start + 250]
         found += run(*history, *part)[len(history):]
     return found
+
+
+def counted(answer):
+    """What stands behind the count in an answer, which must be as many numbers as it tells."""
+    assert answer[0] == len(answer) - 1, answer
+    return answer[1:]
+
+
+def quads(numbers):
+    """The numbers as tuples of four."""
+    assert len(numbers) % 4 == 0, numbers
+    return [tuple(numbers[place:place + 4]) for place in range(0, len(numbers), 4)]
+
+
+def around(address):
+    """The prefixes that contain the address, the shortest first."""
+    return [(address >> 6 - length << 6 - length, length) for length in range(7)]
 
 
 def destinations(history):
@@ -136,6 +180,7 @@ def state(history):
         "strict": last(*history, set_strict(0)),
         "destinations": destinations(history),
         "validities": validities(history),
+        "listed": ask(history, [LIST_ROAS, LIST_ANNOUNCEMENTS, DROPPED_ANNOUNCEMENTS]),
     }
 
 
@@ -147,3 +192,95 @@ def full_roas(count, origin=0):
 def full_announcements(count, member=0):
     """Calls that add so many announcements, of the single addresses 0 to count - 1."""
     return [announce(address, 6, member, member) for address in range(count)]
+
+
+class Numbers:
+    """Numbers that look random and are the same in each run."""
+
+    def __init__(self, seed):
+        self.seed = seed
+
+    def below(self, limit):
+        self.seed = (self.seed * 1103515245 + 12345) % 2 ** 31
+        return (self.seed >> 8) % limit
+
+    def one_in(self, count):
+        return self.below(count) == 0
+
+
+def some_prefix(numbers):
+    if numbers.one_in(25):
+        return (numbers.below(66), numbers.below(8))
+    length = numbers.below(7)
+    size = 2 ** (6 - length)
+    # Few addresses, so that many prefixes contain one another.
+    return (numbers.below(16 if numbers.below(4) else 64) // size * size, length)
+
+
+def some_member(numbers, members):
+    return 8 if numbers.one_in(40) else numbers.below(members)
+
+
+def some_announcement(numbers, members):
+    announcer = some_member(numbers, members)
+    origin = announcer if numbers.below(2) else some_member(numbers, members)
+    return (*some_prefix(numbers), announcer, origin)
+
+
+def some_call(numbers, members, known):
+    kind = numbers.below(130)
+    if kind < 18:
+        address, length = some_prefix(numbers)
+        max_length = numbers.below(8) if numbers.one_in(10) else min(6, length + numbers.below(4))
+        return add_roa(address, length, max_length, some_member(numbers, members))
+    if kind < 24:
+        return remove_roa(numbers.below(13))
+    if kind < 46:
+        if known and numbers.one_in(8):
+            return announce(*known[numbers.below(len(known))])
+        return announce(*some_announcement(numbers, members))
+    if kind < 56:
+        if known and numbers.below(5):
+            return withdraw(*known[numbers.below(len(known))])
+        return withdraw(*some_announcement(numbers, members))
+    if kind < 62:
+        return set_strict(numbers.below(3) if numbers.one_in(4) else numbers.below(2))
+    if kind < 65:
+        return tighten_roas(some_member(numbers, members))
+    return some_question(numbers, members, known)
+
+
+def some_question(numbers, members, known):
+    kind = numbers.below(65)
+    member = some_member(numbers, members)
+    if kind < 12:
+        return validity(*some_prefix(numbers), member)
+    if kind < 30:
+        return destination(numbers.below(66))
+    if kind < 38:
+        return hijackers(numbers.below(66 if numbers.one_in(2) else 16))
+    if kind < 48:
+        if known and numbers.one_in(4):
+            return preview_announce(*known[numbers.below(len(known))])
+        return preview_announce(*some_announcement(numbers, members))
+    return [
+        address_count(member), address_count(member), address_count(member),
+        vulnerable_addresses(member), vulnerable_addresses(member),
+        preview_tighten(member), preview_tighten(member),
+        valid_prefix_count(member), valid_prefix_count(member),
+        DROPPED_ANNOUNCEMENTS, LIST_ROAS, LIST_ANNOUNCEMENTS,
+    ][numbers.below(12)]
+
+
+def some_calls(seed):
+    """Calls of one request."""
+    numbers = Numbers(seed)
+    members = 2 + numbers.below(7)
+    calls = [RESET]
+    known = []
+    while len(calls) < 400:
+        call = RESET if numbers.one_in(200) else some_call(numbers, members, known)
+        if call[0] == 3:
+            known.append(call[1:])
+        calls.append(call)
+    return calls

@@ -6,10 +6,7 @@ The model keeps prefixes as sets of addresses and shares nothing with the packag
 import functools
 import unittest
 
-from tests.calls import (
-    RESET, add_roa, announce, destination, remove_roa, run, set_strict, tighten_roas, validity,
-    withdraw,
-)
+from tests.calls import RESET, destination, run, set_strict, some_calls, validity
 
 
 @functools.lru_cache(maxsize=None)
@@ -20,12 +17,23 @@ def addresses(address, length):
     return frozenset(range(address, address + 2 ** (6 - length)))
 
 
+def rank(one):
+    """The announcement with the lowest rank is preferred."""
+    return (-one[1], one[2] != one[3], one[2], one[3])
+
+
+PREFIXES = [
+    (address, length) for address in range(64) for length in range(7)
+    if addresses(address, length) is not None
+]
+
+
 class Model:
 
-    def __init__(self):
-        self.roas = []
-        self.announcements = []
-        self.strict = 0
+    def __init__(self, roas=(), announcements=(), strict=0):
+        self.roas = list(roas)
+        self.announcements = list(announcements)
+        self.strict = strict
 
     def validity(self, address, length, origin):
         covering = [roa for roa in self.roas if addresses(*roa[:2]) >= addresses(address, length)]
@@ -33,11 +41,12 @@ class Model:
             return 1
         return 2 if covering else 0
 
+    def accepts(self, one):
+        return self.validity(one[0], one[1], one[3]) in ((1,) if self.strict else (1, 0))
+
     def accepted(self):
         """The accepted announcements, the most preferred one first."""
-        codes = (1,) if self.strict else (1, 0)
-        found = [one for one in self.announcements if self.validity(one[0], one[1], one[3]) in codes]
-        return sorted(found, key=lambda one: (-one[1], one[2] != one[3], one[2], one[3]))
+        return sorted((one for one in self.announcements if self.accepts(one)), key=rank)
 
     def destinations(self):
         found = {}
@@ -45,6 +54,35 @@ class Model:
             for address in addresses(*one[:2]):
                 found[address] = one[2]
         return [found.get(address) for address in range(64)]
+
+    def can_hijack(self, address):
+        """The members that can hijack the address: each tries every prefix that contains it."""
+        best = min((one for one in self.accepted() if address in addresses(*one[:2])), key=rank, default=None)
+        claims = [
+            (*prefix, origin) for prefix in PREFIXES if address in addresses(*prefix)
+            for origin in range(8) if self.accepts((*prefix, None, origin))
+        ]
+        return [
+            member for member in range(8) if (best is None or best[2] != member) and any(
+                best is None or rank((claim[0], claim[1], member, claim[2])) < rank(best)
+                for claim in claims)
+        ]
+
+    def vulnerable(self, member):
+        found = self.destinations()
+        return [address for address in range(64) if found[address] == member and self.can_hijack(address)]
+
+    def tightened(self, member):
+        tight = [
+            (one[0], one[1], one[1], member) for one in self.announcements
+            if one[2:] == (member, member) and self.validity(*one[:2], member) == 1
+        ]
+        return [roa for roa in self.roas if roa[3] != member] + tight
+
+    def moves(self, after):
+        """The addresses that move when the state becomes that of the other model."""
+        now, then = self.destinations(), after.destinations()
+        return [address for address in range(64) if now[address] != then[address]]
 
     def change(self, first, call):
         """Answer with `first` and the number of addresses that the change moves."""
@@ -96,11 +134,7 @@ class Model:
     def tighten_roas(self, member):
         if member > 7:
             return [-2]
-        tight = [
-            (one[0], one[1], one[1], member) for one in self.announcements
-            if one[2:] == (member, member) and self.validity(*one[:2], member) == 1
-        ]
-        roas = [roa for roa in self.roas if roa[3] != member] + tight
+        roas = self.tightened(member)
         if len(roas) > 12:
             return [-28]
         return self.change(lambda: len(self.roas), lambda: setattr(self, "roas", roas))
@@ -120,6 +154,54 @@ class Model:
                 return [best[2], best[3], best[0], best[1]]
         return [-33]
 
+    def address_count(self, member):
+        found = self.destinations()
+        return [-2] if member > 7 else [found.count(member), found.count(None)]
+
+    def hijackers(self, address):
+        if address > 63:
+            return [-22]
+        found = self.can_hijack(address)
+        return [len(found), *found]
+
+    def vulnerable_addresses(self, member):
+        if member > 7:
+            return [-2]
+        found = self.vulnerable(member)
+        return [len(found), *found]
+
+    def preview_tighten(self, member):
+        if member > 7:
+            return [-2]
+        after = Model(self.tightened(member), self.announcements, self.strict)
+        return [len(after.vulnerable(member)), len(self.moves(after))]
+
+    def preview_announce(self, *one):
+        if one[2] > 7 or one[3] > 7:
+            return [-2]
+        if addresses(*one[:2]) is None:
+            return [-22]
+        if one in self.announcements:
+            return [0]
+        found = self.moves(Model(self.roas, self.announcements + [one], self.strict))
+        return [len(found), *found]
+
+    def dropped_announcements(self):
+        accepted = self.accepted()
+        found = [one for one in self.announcements if one not in accepted]
+        return [len(found), *sum(found, ())]
+
+    def valid_prefix_count(self, member):
+        if member > 7:
+            return [-2]
+        return [len([1 for prefix in PREFIXES if self.validity(*prefix, member) == 1])]
+
+    def list_roas(self):
+        return [len(self.roas), *sum(self.roas, ())]
+
+    def list_announcements(self):
+        return [len(self.announcements), self.strict, *sum(self.announcements, ())]
+
     def answer(self, call):
         if call == RESET:
             self.__init__()
@@ -127,80 +209,11 @@ class Model:
         named = {
             1: self.add_roa, 2: self.remove_roa, 3: self.announce, 4: self.withdraw,
             5: self.set_strict, 6: self.tighten_roas, 7: self.ask_validity, 8: self.destination,
+            9: self.address_count, 10: self.hijackers, 11: self.vulnerable_addresses,
+            12: self.preview_tighten, 13: self.preview_announce, 14: self.dropped_announcements,
+            15: self.valid_prefix_count, 16: self.list_roas, 17: self.list_announcements,
         }
         return named[call[0]](*call[1:])
-
-
-class Numbers:
-    """Numbers that look random and are the same in each run."""
-
-    def __init__(self, seed):
-        self.seed = seed
-
-    def below(self, limit):
-        self.seed = (self.seed * 1103515245 + 12345) % 2 ** 31
-        return (self.seed >> 8) % limit
-
-    def one_in(self, count):
-        return self.below(count) == 0
-
-
-def some_prefix(numbers):
-    if numbers.one_in(25):
-        return (numbers.below(66), numbers.below(8))
-    length = numbers.below(7)
-    size = 2 ** (6 - length)
-    # Few addresses, so that many prefixes contain one another.
-    return (numbers.below(16 if numbers.below(4) else 64) // size * size, length)
-
-
-def some_member(numbers, members):
-    return 8 if numbers.one_in(40) else numbers.below(members)
-
-
-def some_announcement(numbers, members):
-    announcer = some_member(numbers, members)
-    origin = announcer if numbers.below(2) else some_member(numbers, members)
-    return (*some_prefix(numbers), announcer, origin)
-
-
-def some_call(numbers, members, known):
-    kind = numbers.below(100)
-    if kind < 18:
-        address, length = some_prefix(numbers)
-        max_length = numbers.below(8) if numbers.one_in(10) else min(6, length + numbers.below(4))
-        return add_roa(address, length, max_length, some_member(numbers, members))
-    if kind < 24:
-        return remove_roa(numbers.below(13))
-    if kind < 46:
-        if known and numbers.one_in(8):
-            return announce(*known[numbers.below(len(known))])
-        return announce(*some_announcement(numbers, members))
-    if kind < 56:
-        if known and numbers.below(5):
-            return withdraw(*known[numbers.below(len(known))])
-        return withdraw(*some_announcement(numbers, members))
-    if kind < 62:
-        return set_strict(numbers.below(3) if numbers.one_in(4) else numbers.below(2))
-    if kind < 65:
-        return tighten_roas(some_member(numbers, members))
-    if kind < 80:
-        return validity(*some_prefix(numbers), some_member(numbers, members))
-    return destination(numbers.below(66))
-
-
-def some_calls(seed):
-    """Calls of one request."""
-    numbers = Numbers(seed)
-    members = 2 + numbers.below(7)
-    calls = [RESET]
-    known = []
-    while len(calls) < 400:
-        call = RESET if numbers.one_in(200) else some_call(numbers, members, known)
-        if call[0] == 3:
-            known.append(call[1:])
-        calls.append(call)
-    return calls
 
 
 class AgainstTheModel(unittest.TestCase):
@@ -218,10 +231,11 @@ class AgainstTheModel(unittest.TestCase):
                 refused[call[0], min(answer[0], 0)] += 1
         # The requests are worth something only where they reach every answer.
         self.assertEqual(sorted(refused), sorted(
-            [(number, 0) for number in range(9)]
+            [(number, 0) for number in range(18)]
             + [(1, -2), (1, -22), (1, -17), (1, -28), (2, -2)]
             + [(3, -2), (3, -22), (3, -17), (3, -28), (4, -2), (4, -6)]
-            + [(5, -22), (6, -2), (6, -28), (7, -2), (7, -22), (8, -22), (8, -33)]))
+            + [(5, -22), (6, -2), (6, -28), (7, -2), (7, -22), (8, -22), (8, -33)]
+            + [(9, -2), (10, -22), (11, -2), (12, -2), (13, -2), (13, -22), (15, -2)]))
 
     def test_in_strict_mode_what_is_selected_is_valid(self):
         for seed in range(8):

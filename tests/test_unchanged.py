@@ -1,10 +1,12 @@
-"""Refused calls, validity and destination leave the state unchanged."""
+"""Refused calls, and the calls that only return information, leave the state unchanged."""
 
 import unittest
 
 from tests.calls import (
-    ALL_ADDRESSES, BIGGEST, RESET, add_roa, announce, destination, full_announcements, full_roas,
-    last, remove_roa, set_strict, state, tighten_roas, validity, withdraw,
+    ALL_ADDRESSES, ALL_PREFIXES, BIGGEST, DROPPED_ANNOUNCEMENTS, LIST_ANNOUNCEMENTS, LIST_ROAS,
+    RESET, add_roa, address_count, announce, destination, full_announcements, full_roas, hijackers,
+    last, preview_announce, preview_tighten, remove_roa, run, set_strict, state, tighten_roas,
+    valid_prefix_count, validity, vulnerable_addresses, withdraw,
 )
 
 SMALL = [
@@ -30,6 +32,10 @@ REFUSED = [
     (tighten_roas(8), -2), (tighten_roas(BIGGEST), -2),
     (validity(0, 2, 8), -2), (validity(1, 2, 0), -22), (validity(BIGGEST, BIGGEST, 0), -22),
     (destination(64), -22), (destination(BIGGEST), -22),
+    (address_count(8), -2), (hijackers(64), -22), (vulnerable_addresses(8), -2),
+    (preview_tighten(8), -2), (preview_announce(0, 2, 8, 0), -2),
+    (preview_announce(0, 2, 0, BIGGEST), -2), (preview_announce(1, 2, 0, 0), -22),
+    (preview_announce(0, BIGGEST, 0, 0), -22), (valid_prefix_count(8), -2),
 ]
 ALREADY_THERE = [(add_roa(0, 2, 3, 1), -17), (announce(0, 3, 4, 1), -17)]
 NO_ROOM = [(add_roa(0, 0, 6, 7), -28), (announce(0, 0, 7, 7), -28), (tighten_roas(1), -28)]
@@ -56,12 +62,37 @@ class Unchanged(unittest.TestCase):
     def test_no_destination(self):
         self.check([RESET], [(destination(0), -33), (destination(63), -33)])
 
-    def test_validity_and_destination(self):
+    def test_each_call_that_only_returns_information(self):
+        members = range(8)
+        kinds = {
+            "validity": [validity(0, length, origin) for length in range(7) for origin in members],
+            "destination": [destination(address) for address in ALL_ADDRESSES],
+            "address_count": [address_count(member) for member in members],
+            "hijackers": [hijackers(address) for address in ALL_ADDRESSES],
+            "vulnerable_addresses": [vulnerable_addresses(member) for member in members],
+            "preview_tighten": [preview_tighten(member) for member in members],
+            "preview_announce": [preview_announce(*one, 4, 1) for one in ALL_PREFIXES[::2]],
+            "valid_prefix_count": [valid_prefix_count(member) for member in members],
+            "lists": [DROPPED_ANNOUNCEMENTS, LIST_ROAS, LIST_ANNOUNCEMENTS] * 2,
+        }
         for history in (SMALL, STRICT):
             before = state(history)
-            asking = [destination(address) for address in ALL_ADDRESSES]
-            asking += [validity(0, length, origin) for length in range(7) for origin in range(8)]
-            self.assertEqual(state(history + asking), before)
+            for kind, asking in kinds.items():
+                with self.subTest(kind=kind):
+                    self.assertEqual(state(history + asking), before)
+
+    def test_previews_beyond_the_limits(self):
+        before = state(FULL)
+        asking = [preview_tighten(1), preview_announce(0, 0, 7, 7), preview_announce(32, 1, 1, 1)]
+        self.assertEqual([answer[0] for answer in run(*FULL, *asking)[-3:]], [0, 48, 28])
+        self.assertEqual(state(FULL + asking), before)
+
+    def test_previews_tell_of_a_change_that_they_do_not_make(self):
+        self.assertEqual(run(*SMALL, preview_tighten(1), preview_tighten(1))[-2:], [[0, 8]] * 2)
+        one = preview_announce(0, 3, 1, 1)
+        self.assertEqual(run(*SMALL, one, one)[-2:], [[8] + list(range(8))] * 2)
+        self.assertEqual(last(*SMALL, preview_tighten(1), tighten_roas(1))[1], 8)
+        self.assertEqual(last(*SMALL, one, announce(0, 3, 1, 1)), [1, 8])
 
 
 if __name__ == "__main__":
